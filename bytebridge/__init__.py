@@ -1,0 +1,1 @@
+"""Bytebridge: converting binary messages while they are received."""

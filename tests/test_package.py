@@ -1,0 +1,64 @@
+"""Tests of the package as a whole: its files keep the bounds of the language, and README.md tells the truth."""
+
+import ast
+import doctest
+import pathlib
+import unittest
+
+TOP = pathlib.Path(__file__).resolve().parent.parent
+PACKAGE = TOP / "bytebridge"
+
+# What the interface lists under each file that has landed, besides the errors.
+INTERFACE = {
+    "numbers.py": ["word_size", "code_of", "number_of", "store", "fetch", "bits_at"],
+    "layouts.py": ["members", "sizes"],
+}
+
+
+def sources():
+    return sorted(PACKAGE.rglob("*.py"))
+
+
+class FilesTest(unittest.TestCase):
+    def test_the_package_contains_python_files_only(self):
+        others = [path for path in PACKAGE.rglob("*") if path.is_file() and path.suffix != ".py"]
+        self.assertEqual([path for path in others if path.parent.name != "__pycache__"], [])
+        self.assertIn(PACKAGE / "__init__.py", sources())
+
+    def test_files_lines_and_functions_are_short_and_plain(self):
+        for path in sources():
+            text = path.read_text(encoding="utf-8")
+            lines = text.splitlines()
+            with self.subTest(file=path.name):
+                self.assertLess(len(lines), 400)
+                self.assertLessEqual(max([len(line) for line in lines]), 120)
+                self.assertEqual([c for c in text if c != "\n" and not " " <= c <= "~"], [])
+                for node in ast.walk(ast.parse(text)):
+                    if isinstance(node, ast.FunctionDef):
+                        self.assertLessEqual(node.end_lineno - node.lineno + 1, 40, node.name)
+
+    def test_imports_name_the_package_only(self):
+        for path in sources():
+            for node in ast.walk(ast.parse(path.read_text(encoding="utf-8"))):
+                with self.subTest(file=path.name):
+                    self.assertNotIsInstance(node, ast.Import)
+                    if isinstance(node, ast.ImportFrom):
+                        self.assertEqual((node.module.split(".")[0], node.level), ("bytebridge", 0))
+
+    def test_the_interface_is_defined_in_the_file_that_lists_it(self):
+        for file, names in INTERFACE.items():
+            tree = ast.parse((PACKAGE / file).read_text(encoding="utf-8"))
+            defined = [node.name for node in tree.body if isinstance(node, (ast.FunctionDef, ast.ClassDef))]
+            with self.subTest(file=file):
+                self.assertEqual([name for name in names if name not in defined], [])
+
+
+class ReadmeTest(unittest.TestCase):
+    def test_the_examples_of_the_readme(self):
+        result = doctest.testfile(str(TOP / "README.md"), module_relative=False)
+        self.assertGreater(result.attempted, 0)
+        self.assertEqual(result.failed, 0)
+
+
+if __name__ == "__main__":
+    unittest.main()
