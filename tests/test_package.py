@@ -12,6 +12,16 @@ PACKAGE = TOP / "bytebridge"
 INTERFACE = {
     "numbers.py": ["word_size", "code_of", "number_of", "store", "fetch", "bits_at"],
     "layouts.py": ["members", "sizes"],
+    "messages.py": ["first_invalid", "write_message", "facts_of", "check_byte"],
+    "patterns.py": ["whole", "single", "belongs", "how_many", "only", "with_member"],
+    "reading.py": ["possible", "read_message", "certain", "Reader"],
+    "writing.py": ["determined", "blockers", "Composer"],
+}
+
+# What the interface lists for each class that has landed, besides its attributes.
+METHODS = {
+    "Reader": ["take", "received"],
+    "Composer": ["put", "take", "blockers", "taken"],
 }
 
 
@@ -51,6 +61,16 @@ class FilesTest(unittest.TestCase):
             defined = [node.name for node in tree.body if isinstance(node, (ast.FunctionDef, ast.ClassDef))]
             with self.subTest(file=file):
                 self.assertEqual([name for name in names if name not in defined], [])
+
+    def test_the_methods_of_the_interface_are_defined_in_the_class_itself(self):
+        found = {}
+        for path in sources():
+            for node in ast.walk(ast.parse(path.read_text(encoding="utf-8"))):
+                if isinstance(node, ast.ClassDef):
+                    found[node.name] = [part.name for part in node.body if isinstance(part, ast.FunctionDef)]
+        for name, methods in METHODS.items():
+            with self.subTest(name=name):
+                self.assertEqual([method for method in methods if method not in found[name]], [])
 
 
 class ReadmeTest(unittest.TestCase):
