@@ -34,6 +34,16 @@ def is_allowed(field, number):
     return any([low <= number <= high for low, high in allowed_ranges(field)])
 
 
+def allows_all_of(field, other):
+    """Tell whether a field allows all integers that the other field allows."""
+    # A gap lies between two ranges of a field, so a range is covered by a single one or not at all.
+    ranges = allowed_ranges(field)
+    for low, high in allowed_ranges(other):
+        if not any([least <= low and high <= greatest for least, greatest in ranges]):
+            return False
+    return True
+
+
 def listed_integers(field):
     """Return the list of the allowed integers of a field that has ranges, in ascending order."""
     found = []
@@ -48,6 +58,21 @@ def allowed_set(field):
     if ranges is None:
         return ("bits", 0, 0)
     return set_of(listed_integers(field), width)
+
+
+def shared_set(field, other):
+    """Return the integer set of the field's allowed integers that the other field allows, or None.
+
+    Both fields are unsigned, or both are signed and have the same width.
+    """
+    _, _, width, _, ranges, _ = field
+    _, _, other_width, _, other_ranges, _ = other
+    if ranges is not None:
+        return some_set_of([number for number in listed_integers(field) if is_allowed(other, number)], width)
+    if other_ranges is not None:
+        return some_set_of([number for number in listed_integers(other) if is_allowed(field, number)], width)
+    # What fits into a narrower field are the integers whose bits above its width are 0.
+    return ("bits", all_bits(width) ^ all_bits(min(width, other_width)), 0)
 
 
 def set_of(numbers, width):
@@ -120,3 +145,16 @@ def only_integer(entry, width, signed):
     if entry[0] == "bits" and entry[1] == all_bits(width):
         return number_of(entry[2], width, signed)
     return None
+
+
+def in_width(entry, width, other_width):
+    """Return the integer set of the same integers, of which all fit, for a field of another width.
+
+    The widths differ for unsigned integers only.
+    """
+    if entry[0] == "among" or width == other_width:
+        return entry
+    _, known, code = entry
+    if width > other_width:
+        return ("bits", known & all_bits(other_width), code)
+    return ("bits", known | (all_bits(other_width) ^ all_bits(width)), code)

@@ -41,7 +41,7 @@ class Maker:
 
     def name(self):
         self.names += 1
-        return self.rng.choice("abcxyzAZ") + self.rng.choice(["", "_", "1"]) + str(self.names)
+        return self.rng.choice("abcxyzAZ") + self.rng.choice(["", "_", "1_"]) + str(self.names)
 
     def part(self, width):
         """A part of a word: free bits, a narrow field, or a field with ranges."""

@@ -45,7 +45,8 @@ def broken(rng, layout, record):
 def any_integer(rng, value):
     if rng.random() < 0.8:
         return value
-    return rng.choice([value - 1, value + 1, -value, -1, 0, 3, 4, 255, 256, -129, 65536, 2 ** 32, -2 ** 31 - 1, 10 ** 30])
+    others = [value - 1, value + 1, -value, -1, 0, 3, 4, 255, 256, -129, 65536, 2 ** 32, -2 ** 31 - 1, 10 ** 30]
+    return rng.choice(others)
 
 
 class FirstInvalidTest(unittest.TestCase):

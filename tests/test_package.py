@@ -16,12 +16,17 @@ INTERFACE = {
     "patterns.py": ["whole", "single", "belongs", "how_many", "only", "with_member"],
     "reading.py": ["possible", "read_message", "certain", "Reader"],
     "writing.py": ["determined", "blockers", "Composer"],
+    "linking.py": ["Bridge"],
+    "reports.py": ["narrowed", "lost", "filled"],
+    "converting.py": ["sent_after", "convert", "arrivals", "Converter", "stream"],
 }
 
 # What the interface lists for each class that has landed, besides its attributes.
 METHODS = {
     "Reader": ["take", "received"],
     "Composer": ["put", "take", "blockers", "taken"],
+    "Bridge": ["is_convertible", "converted", "transferred"],
+    "Converter": ["take", "received", "sent"],
 }
 
 

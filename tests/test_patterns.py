@@ -92,8 +92,10 @@ class IntegerSetTest(unittest.TestCase):
                     self.assertEqual(only(layout, (entry,)), chosen if many == 1 else None)
 
     def test_a_single_integer_has_its_code_in_all_bits(self):
-        for width, signed, number, code in [(8, False, 0, 0), (8, True, -1, 255), (32, True, -2, 4294967294),
-                                            (32, False, 4294967295, 4294967295), (1, True, -1, 1), (12, True, -1, 4095)]:
+        for width, signed, number, code in [
+            (8, False, 0, 0), (8, True, -1, 255), (32, True, -2, 4294967294), (32, False, 4294967295, 4294967295),
+            (1, True, -1, 1), (12, True, -1, 4095),
+        ]:
             entry = ("bits", 2 ** width - 1, code)
             self.assertEqual(single(field(width, signed), (number,)), (entry,))
             self.assertEqual(only(field(width, signed), (entry,)), (number,))
@@ -112,7 +114,8 @@ class IntegerSetTest(unittest.TestCase):
 
 class WholeTest(unittest.TestCase):
     def test_the_examples_of_point_85(self):
-        self.assertEqual(whole((A, S)), (("among", (1, 2, 3)), ("counts", (0, 1, 2), (("bits", 255, 7), ("bits", 255, 7)))))
+        seven = ("bits", 255, 7)
+        self.assertEqual(whole((A, S)), (("among", (1, 2, 3)), ("counts", (0, 1, 2), (seven, seven))))
         self.assertEqual(how_many((A, S), whole((A, S))), 9)
         self.assertEqual(single((A, S), (2, (7,))), (("bits", 255, 2), ("counts", (1,), (("bits", 255, 7),))))
         self.assertEqual(whole((R, C)), (
@@ -268,7 +271,8 @@ class CountingTest(unittest.TestCase):
 
 class InterfaceExampleTest(unittest.TestCase):
     def test_the_examples_of_the_interface(self):
-        self.assertEqual(whole((A, S)), (("among", (1, 2, 3)), ("counts", (0, 1, 2), (("bits", 255, 7), ("bits", 255, 7)))))
+        seven = ("bits", 255, 7)
+        self.assertEqual(whole((A, S)), (("among", (1, 2, 3)), ("counts", (0, 1, 2), (seven, seven))))
         self.assertEqual(how_many((A, S), whole((A, S))), 9)
         self.assertEqual(with_member((A, S), whole((A, S)), "s", ()), (("among", (1, 2, 3)), ("counts", (0,), ())))
 

@@ -7,7 +7,8 @@ from bytebridge.errors import BridgeError, UnexpectedByte, UnexpectedEnd
 from bytebridge.messages import write_message
 from bytebridge.patterns import single, whole
 from bytebridge.reading import Reader, certain, possible, read_message
-from oracle import certain_in, encoded, fullest, many_in, messages_for, pattern_of, random_domain, records_in, whole_domain
+from oracle import certain_in, encoded, fullest, many_in, messages_for, pattern_of, random_domain, records_in
+from oracle import whole_domain
 from samples import WIDE, array, integer, random_layouts
 
 X = integer("u16be", "x")
@@ -220,8 +221,8 @@ class PossibleTest(ReadingTest):
     def test_elements_of_lists(self):
         layout = (("list", "l", ("counted", "u8", 0, 3), (X, Y)),)
         free = (BYTE, ("among", (0, 1, 2)))
-        self.assertEqual(possible(layout, [2, 1, 2, 0, 3])[0], (
-            ("counts", (2,), ((("bits", 65535, 258), ("bits", 255, 0)), (("bits", 65280, 768), ("among", (0, 1, 2))))),))
+        first, second = (("bits", 65535, 258), ("bits", 255, 0)), (("bits", 65280, 768), ("among", (0, 1, 2)))
+        self.assertEqual(possible(layout, [2, 1, 2, 0, 3])[0], (("counts", (2,), (first, second)),))
         self.assertEqual(possible(layout, [3, 1, 2])[0], (
             ("counts", (3,), ((("bits", 65535, 258), ("among", (0, 1, 2))), free, free)),))
         self.assert_unexpected(layout, [2, 1, 2, 3], 3)
@@ -317,7 +318,8 @@ class PossibleTest(ReadingTest):
         self.assertEqual(read_message((), []), ())
 
     def test_a_layout_with_a_thousand_items(self):
-        layout = tuple([("record", f"r{number}", (integer("u8", "a"),) if number < 400 else ()) for number in range(1000)])
+        filled = [("record", f"r{number}", (integer("u8", "a"),)) for number in range(400)]
+        layout = tuple(filled + [("record", f"e{number}", ()) for number in range(600)])
         message = [number % 256 for number in range(400)]
         record = read_message(layout, message)
         self.assertEqual(record, tuple([(byte,) for byte in message]) + ((),) * 600)
@@ -568,8 +570,8 @@ class InterfaceExampleTest(ReadingTest):
         self.assertEqual(read_message(station, [5, 1, 1, 2, 3, 0, 4]), (5, ((258, 3),)))
 
     def test_the_message_of_point_62(self):
-        bits = ("word", "u8", (("mode", 3, False, None, None), (None, 4, False, None, None), ("ok", 1, False, None, None)))
-        layout = (bits, array("u16le", "t", ("counted", "u8", 0, 2)), ("check", "sum"))
+        parts = (("mode", 3, False, None, None), (None, 4, False, None, None), ("ok", 1, False, None, None))
+        layout = (("word", "u8", parts), array("u16le", "t", ("counted", "u8", 0, 2)), ("check", "sum"))
         self.assertEqual(read_message(layout, [191, 0, 191]), (5, 1, ()))
         self.assertEqual(read_message(layout, [161, 2, 2, 1, 3, 0, 169]), (5, 1, (258, 3)))
 
