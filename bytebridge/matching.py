@@ -1,8 +1,8 @@
 """Matched members of two layouts: what goes together, the default values, and what can be converted.
 
 Members are given by the descriptions that bytebridge.layouts makes. A path in
-this module is a member path; it begins with a start that ends in a point, or
-with the empty string for the members of a layout itself.
+this module is a member path. The start of a path is all that stands before the
+name of the member: the empty string for the members of a layout itself.
 """
 
 from bytebridge.errors import KindsDiffer, MissingDefault
