@@ -48,7 +48,7 @@ def listed_integers(field):
     """Return the list of the allowed integers of a field that has ranges, in ascending order."""
     found = []
     for low, high in allowed_ranges(field):
-        found.extend(range(low, high + 1))
+        found.extend(list(range(low, high + 1)))
     return found
 
 
@@ -102,7 +102,8 @@ def agreement(codes, width):
 def codes_with(known, width):
     """Return the number of codes that agree with a code in the known bits."""
     free = all_bits(width) ^ known
-    return 1 << f"{free:b}".count("1")
+    digits = f"{free:b}"
+    return 1 << digits.count("1")
 
 
 def common_bits(entry, width):

@@ -30,8 +30,27 @@ METHODS = {
 }
 
 
+# Calls that the language wants to be iterated on the spot, and the calls that do so with their first argument.
+LAZY = ["range", "zip", "enumerate", "reversed"]
+ITERATING = ["list", "tuple", "dict", "sorted", "sum", "any", "all", "enumerate", "zip", "min", "max"]
+
+
 def sources():
     return sorted(PACKAGE.rglob("*.py"))
+
+
+def called_name(node):
+    """The name of the function that is called, or None."""
+    if isinstance(node, ast.Call) and isinstance(node.func, ast.Name):
+        return node.func.id
+    return None
+
+
+def iterated_by(node):
+    """The list of the expressions that a node iterates over on the spot."""
+    if isinstance(node, (ast.For, ast.comprehension)):
+        return [node.iter]
+    return node.args[:1] if called_name(node) in ITERATING else []
 
 
 class FilesTest(unittest.TestCase):
@@ -59,6 +78,15 @@ class FilesTest(unittest.TestCase):
                     self.assertNotIsInstance(node, ast.Import)
                     if isinstance(node, ast.ImportFrom):
                         self.assertEqual((node.module.split(".")[0], node.level), ("bytebridge", 0))
+
+    def test_ranges_and_their_kin_are_iterated_at_once(self):
+        for path in sources():
+            tree = ast.parse(path.read_text(encoding="utf-8"))
+            at_once = [id(part) for node in ast.walk(tree) for part in iterated_by(node)]
+            for node in ast.walk(tree):
+                if called_name(node) in LAZY:
+                    with self.subTest(file=path.name, line=node.lineno):
+                        self.assertIn(id(node), at_once)
 
     def test_the_interface_is_defined_in_the_file_that_lists_it(self):
         for file, names in INTERFACE.items():
