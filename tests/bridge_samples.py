@@ -2,8 +2,10 @@
 
 import random
 
-from bridge_oracle import error_of, is_convertible
-from oracle import BITS, count_of, field_of_array, integers_of, limits, members_of, records_in, whole_domain
+from bridge_oracle import conversion, error_of, is_convertible
+from oracle import (
+    BITS, common_start, count_of, encoded, field_of_array, integers_of, limits, members_of, messages_for, records_in,
+    whole_domain)
 from samples import WIDE, integer, random_layouts, random_ranges
 
 
@@ -146,3 +148,28 @@ def random_pairs(seed, many, most_records, free=True, faults=False):
 def convertible_records(source, target):
     records = records_in(source, whole_domain(source, WIDE))
     return [record for record in records if is_convertible(source, target, record)]
+
+
+def conversions(source, target, fill=None):
+    """Pairs of all convertible messages and their conversions; fill gives the free bits and reserved bytes."""
+    return [(message, encoded(target, conversion(source, target, record)))
+            for record in convertible_records(source, target) for message in messages_for(source, record, fill)]
+
+
+def sent_table(pairs):
+    """For each sequence of bytes with which a convertible message begins the bytes sent after it: point 160."""
+    found = {}
+    for message, converted in pairs:
+        for many in range(len(message) + 1):
+            found.setdefault(tuple(message[:many]), []).append(converted)
+    return {data: common_start(messages) for data, messages in found.items()}
+
+
+def random_conversions(seed, many, free):
+    """Random bridges, each with the pairs of all convertible messages and their conversions."""
+    found = []
+    for source, target in random_pairs(seed, many, 120, free=free):
+        pairs = conversions(source, target, lambda bits: sorted({0, 180 % 2 ** bits}))
+        if len(pairs) <= 1500:
+            found.append((source, target, pairs))
+    return found

@@ -4,11 +4,11 @@ import random
 import unittest
 
 from bridge_oracle import conversion
-from bridge_samples import convertible_records, random_pairs
+from bridge_samples import random_conversions, sent_table
 from bytebridge.converting import Converter, arrivals, convert, sent_after, stream
 from bytebridge.errors import UnexpectedByte, UnexpectedEnd
 from bytebridge.linking import Bridge
-from oracle import BITS, common_start, encoded, messages_for
+from oracle import BITS, encoded
 from samples import array, integer
 
 # The layouts of points 3 and 165.
@@ -25,31 +25,6 @@ DISPLAY = (
 )
 METER = (integer("u8", "kind", False, ((1, 9),)), integer("u16le", "value"), ("check", "sum"))
 HOST = (integer("u16be", "value"), integer("u8", "kind", False, ((1, 5),)), integer("u8", "version", False, None, 2))
-
-
-def conversions(source, target, fill=None):
-    """Pairs of all convertible messages and their conversions; fill gives the free bits and reserved bytes."""
-    return [(message, encoded(target, conversion(source, target, record)))
-            for record in convertible_records(source, target) for message in messages_for(source, record, fill)]
-
-
-def sent_table(pairs):
-    """For each sequence of bytes with which a convertible message begins the bytes sent after it: point 160."""
-    found = {}
-    for message, converted in pairs:
-        for many in range(len(message) + 1):
-            found.setdefault(tuple(message[:many]), []).append(converted)
-    return {data: common_start(messages) for data, messages in found.items()}
-
-
-def random_conversions(seed, many, free):
-    """Random bridges, each with the pairs of all convertible messages and their conversions."""
-    found = []
-    for source, target in random_pairs(seed, many, 120, free=free):
-        pairs = conversions(source, target, lambda bits: sorted({0, 180 % 2 ** bits}))
-        if len(pairs) <= 1500:
-            found.append((source, target, pairs))
-    return found
 
 
 class ConvertingTest(unittest.TestCase):

@@ -19,6 +19,10 @@ INTERFACE = {
     "linking.py": ["Bridge"],
     "reports.py": ["narrowed", "lost", "filled"],
     "converting.py": ["sent_after", "convert", "arrivals", "Converter", "stream"],
+    "chains.py": ["point_value", "best", "chain", "sum_chain", "multiple_chain"],
+    "delays.py": ["profile", "start_delay", "dry_at", "late_message"],
+    "tokens.py": ["tokens_of"],
+    "source.py": ["read_layout"],
 }
 
 # What the interface lists for each class that has landed, besides its attributes.
