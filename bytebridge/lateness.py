@@ -17,7 +17,7 @@ one side, without regard to the other one.
 """
 
 from bytebridge.integers import allowed_ranges
-from bytebridge.layouts import allowed_numbers, count_of, described_members, element_of, item_sizes
+from bytebridge.layouts import allowed_numbers, count_bytes, count_of, described_members, element_of, item_sizes
 from bytebridge.layouts import items_by_case, numbers_by_case, plain_size, sizes, word_fields, NAMED_ITEMS
 from bytebridge.matching import default_value
 from bytebridge.messages import put_item
@@ -192,15 +192,6 @@ class LateSequence:
         needed += self._head + index * x + self._mark
         place += self._other_head + index * y + self._other_mark
         return (needed, place, (value,) * index + (inner,) + (value,) * (self._most - index - 1))
-
-
-def count_bytes(count):
-    """Return the number of bytes before all elements and the number of bytes before each one."""
-    if count[0] == "counted":
-        return (word_size(count[1]), 0)
-    if count[0] == "marked":
-        return (0, 1)
-    return (0, 0)
 
 
 class LateMember:

@@ -149,19 +149,24 @@ def fixed_sizes(size):
     return (size, size)
 
 
+def count_bytes(count):
+    """Return the number of bytes before all elements of an array or a list, and that before each element.
+
+    With marks there is one more mark, behind the last element.
+    """
+    if count[0] == "counted":
+        return (word_size(count[1]), 0)
+    if count[0] == "marked":
+        return (0, 1)
+    return (0, 0)
+
+
 def counted_sizes(count, element_sizes):
     """Return the sizes of an array or a list from its count and the sizes of one element."""
     shortest, longest = element_sizes
-    if count[0] == "exactly":
-        _, number = count
-        return (number * shortest, number * longest)
-    if count[0] == "counted":
-        _, word, least, greatest = count
-        stored = word_size(word)
-        return (stored + least * shortest, stored + greatest * longest)
-    # Each element has a mark before it, and one more mark ends even the longest list.
-    _, number = count
-    return (1, number * (1 + longest) + 1)
+    head, mark = count_bytes(count)
+    numbers = allowed_numbers(count)
+    return (head + numbers[0] * (mark + shortest) + mark, head + numbers[-1] * (mark + longest) + mark)
 
 
 def choice_sizes(word, cases):

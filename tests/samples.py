@@ -2,7 +2,7 @@
 
 import random
 
-from oracle import BITS, many_in, whole_domain
+from oracle import BITS, integers_of, limits, many_in, whole_domain
 
 # Integers for fields of more than 8 bits: their bytes agree and differ in many ways.
 WIDE = (0, 1, 2, 255, 256, 257, 513, 32767, 32768, 65280, 65535, 65536, 16777216, 4294967295,
@@ -134,3 +134,29 @@ def random_layouts(seed, many, most_records, wide=False, free=True, depth=3):
         if least <= many_in(layout, whole_domain(layout, WIDE)) <= most_records:
             found.append(layout)
     return found
+
+
+def with_defaults(rng, items):
+    """A layout in which some fields have defaults."""
+    found = []
+    for item in items:
+        if item[0] == "word":
+            parts = [part if part[0] is None else part[:4] + (some_default(rng, part[1:4]),) for part in item[2]]
+            item = ("word", item[1], tuple(parts))
+        elif item[0] == "array":
+            item = item[:6] + (some_default(rng, (BITS[item[2]], item[3], item[5])),)
+        elif item[0] == "list":
+            item = item[:3] + (with_defaults(rng, item[3]),)
+        elif item[0] == "record":
+            item = item[:2] + (with_defaults(rng, item[2]),)
+        elif item[0] == "choice":
+            cases = [(number, name, with_defaults(rng, inner)) for number, name, inner in item[3]]
+            item = item[:3] + (tuple(cases),)
+        found.append(item)
+    return tuple(found)
+
+
+def some_default(rng, field):
+    width, signed, ranges = field
+    wide = [*limits(width, signed), 0, 1]
+    return rng.choice([None, rng.choice(integers_of((width, signed, ranges, None), wide))])

@@ -7,11 +7,15 @@ from bytebridge.converting import Converter, arrivals, convert, sent_after, stre
 from bytebridge.delays import late_message, profile, start_delay
 from bytebridge.errors import InvalidMember, UnexpectedByte, UnexpectedEnd
 from bytebridge.linking import Bridge
+from bytebridge.machine import Machine
 from bytebridge.messages import first_invalid, write_message
 from bytebridge.patterns import how_many, single, whole
+from bytebridge.plans import compiled, folded
+from bytebridge.printer import show_layout
 from bytebridge.reading import Reader, read_message
 from bytebridge.reports import filled, lost, narrowed
 from bytebridge.source import read_layout
+from bytebridge.views import View
 from bytebridge.writing import Composer
 
 
@@ -32,6 +36,14 @@ class ExamplesTest(unittest.TestCase):
         self.assertEqual(profile(bridge), [(10, 1), (13, 8)])
         self.assertEqual(start_delay(bridge), 9)
         self.assertEqual(start_delay(bridge, input_time=3, output_time=1), 31)
+        for plan in [compiled(bridge), folded(compiled(bridge))]:
+            machine = Machine(plan)
+            self.assertEqual(machine.take([]), [126])
+            self.assertEqual(machine.take([5, 1, 1, 2, 3]), [])
+            self.assertEqual(machine.take([0]), [1, 3, 2, 1, 5, 138])
+            self.assertIs(machine.done, False)
+            self.assertEqual(machine.take([4]), [])
+            self.assertIs(machine.done, True)
 
     def test_point_62(self):
         layout = read_layout("bits u8 { mode: 3; _: 4; ok: 1; } u16le t[u8 0..2]; check sum;")
@@ -134,6 +146,46 @@ class ExamplesTest(unittest.TestCase):
         self.assertEqual(read_layout("u16be t; i8 s[marked 2] in 5, 1..3, 4..4 default 2;"), (
             ("word", "u16be", (("t", 16, False, None, None),)),
             ("array", "s", "u8", True, ("marked", 2), ((1, 5),), 2)))
+
+    def test_point_228(self):
+        layout = read_layout("bits u16le { signed x: 5; y: 3 in 5..6, 1 default 5; _: 4; z: 4; } i16be s[u8 1..0x4]; "
+                             "list n [marked 2]{reserved 1;}")
+        text = """bits u16le {
+  signed x: 5;
+  y: 3 in 1, 5..6 default 5;
+  _: 4;
+  z: 4;
+}
+i16be s[u8 1..4];
+list n[marked 2] {
+  reserved 1;
+}
+"""
+        self.assertEqual(show_layout(layout), text)
+        self.assertEqual(read_layout(text), layout)
+
+    def test_point_243(self):
+        view = View(read_layout("bits u8 { mode: 3; _: 4; ok: 1; } u16le t[u8 0..2]; check sum;"), [191, 1, 2, 1, 195])
+        self.assertEqual(list(view), ["mode", "ok", "t[0]"])
+        self.assertEqual(view["t[0]"], 258)
+        view["t[0]"] = 772
+        self.assertEqual(view.content, [191, 1, 4, 3, 199])
+        view["mode"] = 0
+        self.assertEqual(view.content, [31, 1, 4, 3, 39])
+        view.poke(2, 6)
+        self.assertEqual(view.content, [31, 1, 6, 3, 39])
+        self.assertEqual(view["t[0]"], 774)
+        view["ok"] = 0
+        self.assertEqual(view.content, [30, 1, 6, 3, 40])
+
+    def test_point_267(self):
+        plan = ((("among", (1, 2, 4)),), (("bits", ((0, 0, 8, 0),)),),
+                (("mark", 0, 0), ("bits", ((0, 0, 1, 0),)), ("bits", ((0, 1, 2, 0),))))
+        for one in [plan, folded(plan)]:
+            machine = Machine(one)
+            self.assertEqual(machine.take([]), [1])
+            self.assertEqual(machine.take([2]), [0, 1])
+        self.assertEqual(folded(plan)[2][0], ("byte", 1))
 
 
 if __name__ == "__main__":

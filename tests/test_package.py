@@ -8,7 +8,7 @@ import unittest
 TOP = pathlib.Path(__file__).resolve().parent.parent
 PACKAGE = TOP / "bytebridge"
 
-# What the interface lists under each file that has landed, besides the errors.
+# What the interface lists under each file, besides the errors.
 INTERFACE = {
     "numbers.py": ["word_size", "code_of", "number_of", "store", "fetch", "bits_at"],
     "layouts.py": ["members", "sizes"],
@@ -23,14 +23,20 @@ INTERFACE = {
     "delays.py": ["profile", "start_delay", "dry_at", "late_message"],
     "tokens.py": ["tokens_of"],
     "source.py": ["read_layout"],
+    "printer.py": ["show_layout"],
+    "views.py": ["View"],
+    "machine.py": ["flaw", "Machine"],
+    "plans.py": ["compiled", "folded"],
 }
 
-# What the interface lists for each class that has landed, besides its attributes.
+# What the interface lists for each class, besides its attributes.
 METHODS = {
     "Reader": ["take", "received"],
     "Composer": ["put", "take", "blockers", "taken"],
     "Bridge": ["is_convertible", "converted", "transferred"],
     "Converter": ["take", "received", "sent"],
+    "View": ["__getitem__", "__setitem__", "__len__", "__iter__", "__contains__", "content", "poke"],
+    "Machine": ["take", "received", "sent"],
 }
 
 

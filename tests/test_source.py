@@ -9,8 +9,8 @@ from bytebridge.errors import (
     RangesNotAllowed, SymbolExpected, TextError, UnexpectedCharacter, WordExpected, WordTooLong)
 from bytebridge.layouts import sizes
 from bytebridge.source import read_layout
-from oracle import BITS, integers_of, limits
-from samples import array, integer, random_layouts
+from oracle import BITS
+from samples import array, integer, random_layouts, with_defaults
 from texts import Writer
 
 WORDS = ["u8", "u16be", "u16le", "u32be", "u32le"]
@@ -190,32 +190,6 @@ class MeaningTest(SourceTest):
     def test_reading_twice_gives_equal_layouts(self):
         text = "u8 a; list l[2] { u8 b in 1..3; }"
         self.assertEqual(read_layout(text), read_layout(text))
-
-
-def with_defaults(rng, items):
-    """A layout in which some fields have defaults."""
-    found = []
-    for item in items:
-        if item[0] == "word":
-            parts = [part if part[0] is None else part[:4] + (some_default(rng, part[1:4]),) for part in item[2]]
-            item = ("word", item[1], tuple(parts))
-        elif item[0] == "array":
-            item = item[:6] + (some_default(rng, (BITS[item[2]], item[3], item[5])),)
-        elif item[0] == "list":
-            item = item[:3] + (with_defaults(rng, item[3]),)
-        elif item[0] == "record":
-            item = item[:2] + (with_defaults(rng, item[2]),)
-        elif item[0] == "choice":
-            cases = [(number, name, with_defaults(rng, inner)) for number, name, inner in item[3]]
-            item = item[:3] + (tuple(cases),)
-        found.append(item)
-    return tuple(found)
-
-
-def some_default(rng, field):
-    width, signed, ranges = field
-    wide = [*limits(width, signed), 0, 1]
-    return rng.choice([None, rng.choice(integers_of((width, signed, ranges, None), wide))])
 
 
 class ErrorTest(SourceTest):
