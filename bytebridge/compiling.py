@@ -119,7 +119,7 @@ def add_item(item, nodes, steps):
 
 def add_word(word, fields, steps):
     """Add the steps of a word; each of its fields is a triple of a slot, its least bit in the word and its width."""
-    # Significances of the bytes, in the order in which the word stores them.
+    # The index 0 stands for the byte with the eight least bits, wherever the word stores it.
     for index in in_word_order(word, list(range(word_size(word)))):
         pieces = []
         for slot, low, width in fields:

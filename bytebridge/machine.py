@@ -133,8 +133,8 @@ def new_run(plan):
     """Return the state of a machine at the beginning."""
     _, reading, writing = plan
     run = Run(plan, {}, (0, 0), (NO_BYTES, NO_BYTES))
-    run.read_place = run.landed(reading, 0)
-    run.write_place = run.landed(writing, 0)
+    run.read_place = run.landed(reading, run.read_place)
+    run.write_place = run.landed(writing, run.write_place)
     return run
 
 

@@ -176,6 +176,12 @@ class ProfileTest(DelaysTest):
         self.assert_profile("u8 a;", "record s { u16be x default 1; u8 y[marked 3]; check sum; } u8 a; u8 z default 1;", [(1, 4)])
         self.assert_profile("list l[2] { u8 a; }", "list l[2] { u8 s[marked 5]; u8 a; }", [(1, 1), (2, 3)])
 
+    def test_words_of_the_language_as_names(self):
+        source = "u16be u16be; u8 sum[u8 0..1]; check sum; reserved 2; u8 z;"
+        self.assert_profile(source, "u8 z;", [(8, 0)])
+        self.assert_profile("u8 z;", "u16be u16be default 1; record sum { } check sum; u8 z;", [(1, 3)])
+        self.assert_profile("u16be u16be; u16le u8; u8 z;", "u8 u8; u16be u16be; u8 z;", [(3, 0), (5, 3)])
+
     def test_sizes_that_count_on_both_sides(self):
         # The array delays x on both sides: the longest one counts if bytes are sent more quickly than received.
         bridge = self.assert_profile("u8 s[u8 0..5]; u8 x; u8 y;", "u8 s[u8 0..5]; u8 y; u8 x;", [(1, 0), (3, 1), (8, 6)])

@@ -1,6 +1,7 @@
 """Tests of the package as a whole: its files keep the bounds of the language, and README.md tells the truth."""
 
 import ast
+import builtins
 import doctest
 import pathlib
 import unittest
@@ -97,6 +98,30 @@ class FilesTest(unittest.TestCase):
                 if called_name(node) in LAZY:
                     with self.subTest(file=path.name, line=node.lineno):
                         self.assertIn(id(node), at_once)
+
+    def test_local_names_have_no_other_meaning(self):
+        for path in sources():
+            tree = ast.parse(path.read_text(encoding="utf-8"))
+            taken = {alias.name for node in tree.body if isinstance(node, ast.ImportFrom) for alias in node.names}
+            taken |= {node.name for node in tree.body if isinstance(node, ast.ClassDef)} | set(dir(builtins))
+            for node in ast.walk(tree):
+                if isinstance(node, (ast.FunctionDef, ast.Lambda)):
+                    names = {arg.arg for arg in node.args.args + node.args.kwonlyargs}
+                    names |= {part.id for part in ast.walk(node)
+                              if isinstance(part, ast.Name) and isinstance(part.ctx, ast.Store)}
+                    with self.subTest(file=path.name, line=node.lineno):
+                        self.assertEqual(sorted(names & taken), [])
+
+    def test_no_two_files_import_from_each_other(self):
+        imported = {}
+        for path in sources():
+            tree = ast.parse(path.read_text(encoding="utf-8"))
+            imported[path.stem] = {node.module.split(".")[1] for node in tree.body if isinstance(node, ast.ImportFrom)}
+        while imported:
+            free = [name for name, needed in imported.items() if not needed & set(imported)]
+            self.assertNotEqual(free, [], imported)
+            for name in free:
+                del imported[name]
 
     def test_the_interface_is_defined_in_the_file_that_lists_it(self):
         for file, names in INTERFACE.items():
